@@ -1,0 +1,1 @@
+"""A text that several change apart, and bring together."""
