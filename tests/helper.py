@@ -6,6 +6,8 @@ from textcopies.copies import answers
 
 MOST = 16384
 TOP_COUNT = 4294967295
+MOST_CALLS = 900
+MOST_NUMBERS = 30000
 ALL_UNSEEN = [0] * 256
 
 
@@ -50,7 +52,7 @@ def news(copy, room, known=ALL_UNSEEN):
 def learn(copy, changes, n=None):
     if n is None:
         n = len(changes)
-    data = [byte for change in changes for byte in change]
+    data = flat(changes)
     return [copy, 2, 9, n, 1, len(data)] + data
 
 
@@ -77,10 +79,14 @@ def counts(known):
     return [known.get(site, 0) for site in range(256)]
 
 
+def flat(calls):
+    return [number for call in calls for number in call]
+
+
 def ask(*calls):
     """One answer, a list, for each call of a line."""
-    line = [number for call in calls for number in call]
-    if len(calls) > 900 or len(line) > 30000:
+    line = flat(calls)
+    if not 1 <= len(calls) <= MOST_CALLS or len(line) > MOST_NUMBERS:
         raise ValueError("no such line is handed in")
     told = answers(line)
     if len(told) - len(calls) >= 1000000:

@@ -5,7 +5,8 @@ import io
 import unittest
 
 from tests.helper import (
-    MOST, ask, join, learn, length, news, number_at, opened, place, put, puts_in, seen, take, text,
+    MOST, MOST_CALLS, MOST_NUMBERS, TOP_COUNT, ask, counts, flat, join, learn, length, news, number_at, opened,
+    place, put, puts_in, seen, take, text,
 )
 from textcopies.copies import answers
 
@@ -16,9 +17,22 @@ EVERY_CALL = [
     learn(1, [puts_in(9, 8, 121)]), join(0, 1), opened(0, 0), put(0, -1, b"a"), learn(0, [[0] * 16]),
 ]
 
+# As many numbers as a line may have: a full copy, and changes that are all known to it.
+LONGEST = [
+    opened(0, 1), put(0, 0, bytes(MOST)),
+    learn(0, [puts_in(count, 1, 0, (count - 1, 1)) for count in range(2, 851)]),
+    opened(1, 2), number_at(0, MOST - 1), length(0),
+]
 
-def flat(calls):
-    return [number for call in calls for number in call]
+
+class Watched(list):
+    """A list that tells on whoever changes it, for a while or for good."""
+
+    def refuse(self, *args):
+        raise AssertionError("the list was changed")
+
+    append = extend = insert = pop = remove = clear = sort = reverse = refuse
+    __setitem__ = __delitem__ = __iadd__ = __imul__ = refuse
 
 
 class InterfaceTest(unittest.TestCase):
@@ -63,27 +77,31 @@ class InterfaceTest(unittest.TestCase):
         self.assertEqual(answers(opened(1, 1)), [1, 0])
 
     def test_what_is_handed_in_stays(self):
-        calls = flat(EVERY_CALL)
-        before = list(calls)
-        answers(calls)
-        self.assertEqual(calls, before)
+        for calls in (flat(EVERY_CALL), flat(LONGEST)):
+            before = list(calls)
+            answers(calls)
+            self.assertEqual(calls, before)
 
     def test_a_list_that_can_not_be_changed(self):
-        class Watched(list):
-            def refuse(self, *args):
-                raise AssertionError("the list was changed")
-            append = extend = insert = pop = remove = clear = sort = reverse = refuse
-            __setitem__ = __delitem__ = __iadd__ = __imul__ = refuse
-
-        calls = flat(EVERY_CALL)
-        self.assertEqual(answers(Watched(calls)), answers(calls))
+        for calls in (flat(EVERY_CALL), flat(LONGEST)):
+            self.assertEqual(answers(Watched(calls)), answers(calls))
 
     def test_a_second_time_answers_as_the_first(self):
-        calls = flat(EVERY_CALL)
-        first = answers(calls)
-        kept = list(first)
-        self.assertEqual(answers(list(calls)), kept)
-        self.assertEqual(first, kept)
+        for calls in (flat(EVERY_CALL), flat(LONGEST)):
+            first = answers(calls)
+            kept = list(first)
+            self.assertEqual(answers(list(calls)), kept)
+            self.assertEqual(answers(calls), kept)
+            self.assertEqual(first, kept)
+
+    def test_a_time_behind_another_line_answers_as_the_first(self):
+        top = [opened(0, 9), learn(0, [puts_in(TOP_COUNT, 8, 1)]), put(0, 0, b"x"), seen(0), opened(1, 9), join(1, 0)]
+        lines = [flat(EVERY_CALL), flat(top), flat(LONGEST), flat([opened(0, 1), seen(0), put(0, 0, b"a")])]
+        alone = [answers(line) for line in lines]
+        for first in lines:
+            for line, told in zip(lines, alone):
+                answers(first)
+                self.assertEqual(answers(line), told)
 
     def test_nothing_is_kept_between(self):
         answers(flat([opened(0, 1), put(0, 0, b"abc"), opened(1, 1), join(1, 0)]))
@@ -130,12 +148,32 @@ class LongLineTest(unittest.TestCase):
         self.assertEqual(told[-1], [15000 - 224])
         self.assertEqual(told[-2], told[-1])
 
-    def test_the_longest_list(self):
+    def test_30000_numbers(self):
+        self.assertEqual(len(flat(LONGEST)), MOST_NUMBERS)
+        self.assertEqual(ask(*LONGEST), [[0], [MOST], [MOST], [0], [0, MOST, 1], [MOST]])
+
+    def test_900_calls_on_the_greatest_copies(self):
+        calls = [opened(0, 1), opened(1, 2), put(0, 0, bytes(MOST)), join(1, 0)]
+        answered = [[0], [0], [MOST], [MOST]]
+        for step in range(224):
+            calls += [join(1, 0), put(0, step, b"x"), take(1, step, 1), number_at(1, MOST - 1 - step)]
+            answered += [[MOST], [-1], [-1], [0, MOST - step, 1]]
+        self.assertEqual(len(calls), MOST_CALLS)
+        self.assertEqual(ask(*calls), answered)
+
+    def test_a_copy_that_is_opened_and_filled_again_and_again(self):
         calls = [opened(0, 1), put(0, 0, bytes(MOST))]
-        rest = 30000 - len(flat(calls))
-        calls += [learn(0, [puts_in(count, 1, 0, (count - 1, 1)) for count in range(2, 2 + (rest - 6) // 16)])]
-        self.assertGreater(len(flat(calls)), 30000 - 16)
-        self.assertEqual(ask(*calls), [[0], [MOST], [MOST]])
+        for step in range(50):
+            calls += [opened(1, 2 + step), join(1, 0)]
+        self.assertEqual(ask(*calls)[2:], [[0], [MOST]] * 50)
+
+    def test_nearly_a_million_numbers_are_answered(self):
+        data = [step % 256 for step in range(MOST)]
+        calls = [opened(0, 1), put(0, 0, data)] + [text(0, 0, MOST)] * 44 + [news(0, MOST)] + [seen(0)] * 26
+        told = ask(*calls)
+        self.assertGreater(sum(len(answer) for answer in told), 980000)
+        self.assertEqual(told[2:46], [[0] + data] * 44)
+        self.assertEqual(told[47:], [[0] + counts({1: MOST})] * 26)
 
 
 if __name__ == "__main__":

@@ -3,17 +3,13 @@
 import unittest
 
 from tests.helper import (
-    ALL_UNSEEN, CallTest, MOST, TOP_COUNT, ask, counts, join, learn, look, news, opened, put,
+    ALL_UNSEEN, CallTest, MOST, TOP_COUNT, ask, counts, flat, join, learn, look, news, opened, put,
     puts_in, seen, take, takes_out,
 )
 
 TWO = [opened(0, 9), put(0, 0, b"ab"), learn(0, [puts_in(1, 200, 120), puts_in(2, 3, 121, (1, 200))])]
 # In the order of their numbers: by the count first, then by the site.
 ALL = [puts_in(1, 9, 97), puts_in(1, 200, 120), puts_in(2, 3, 121, (1, 200)), puts_in(2, 9, 98, (1, 9))]
-
-
-def flat(changes):
-    return [byte for change in changes for byte in change]
 
 
 class NewsTest(CallTest):
